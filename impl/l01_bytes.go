@@ -145,6 +145,36 @@ func readText(text string, at int64) (string, int64, error) {
 	return joined(text[start : start+size]), start + size, nil
 }
 
+// byteReader reads numbers and texts one behind the other; from its first fault on it reads nothing.
+type byteReader struct {
+	text  string
+	at    int64
+	fault error
+}
+
+func (r *byteReader) num() int64 {
+	if r.fault != nil {
+		return 0
+	}
+	n, next, err := readNum(r.text, r.at)
+	r.at, r.fault = next, err
+	return n
+}
+
+func (r *byteReader) str() string {
+	if r.fault != nil {
+		return ""
+	}
+	t, next, err := readText(r.text, r.at)
+	r.at, r.fault = next, err
+	return t
+}
+
+// atEnd: was all of the text read, without a fault?
+func (r *byteReader) atEnd() bool {
+	return r.fault == nil && r.at == int64(len(r.text))
+}
+
 // PutNum: see chapter 2.
 func PutNum(n int64) string {
 	var all [maxNumBytes]byte
