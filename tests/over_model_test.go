@@ -74,14 +74,20 @@ func pathsOver(l impl.Layers) []string {
 	return slices.Compact(paths)
 }
 
-// overOf is the tree of all, path by path, as chapter 5 says it.
-func overOf(l impl.Layers) impl.TreeOut {
+// toldOf is all that is told of layers, path by path, as chapter 5 says it, however many nodes that are.
+func toldOf(l impl.Layers) impl.Tree {
 	var t impl.Tree
 	for _, path := range pathsOver(l) {
 		if v := viewOf(l, path); v.out.Code == impl.OK {
 			t.Nodes = append(t.Nodes, v.out.Node)
 		}
 	}
+	return t
+}
+
+// overOf is the tree of all, if it may have so many nodes.
+func overOf(l impl.Layers) impl.TreeOut {
+	t := toldOf(l)
 	if len(t.Nodes) > impl.MaxNodes {
 		return impl.TreeOut{Code: impl.ErrFull}
 	}
